@@ -1,0 +1,1 @@
+"""Mirrorwords: the words in a text that read alike from behind."""
