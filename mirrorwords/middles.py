@@ -1,13 +1,11 @@
 """How far a text reads alike to both sides of each of its middles."""
 
-from mirrorwords.errors import BadText
-from mirrorwords.words import is_text
+from mirrorwords.words import refuse_no_text
 
 
 def arms(text):
     """The arm of each middle of the text, in order."""
-    if not is_text(text):
-        raise BadText("a text is up to 200 letters a to z")
+    refuse_no_text(text)
     # A text of no letters asks for a range up to -1, which is empty as it should be.
     return [arm_at(text, middle) for middle in range(2 * len(text) - 1)]
 

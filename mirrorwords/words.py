@@ -1,6 +1,6 @@
-"""Texts and mirror words, and the shorter mirror words at a mirror word's end."""
+"""Texts and mirror words, and the mirror words at their ends."""
 
-from mirrorwords.errors import BadWord
+from mirrorwords.errors import BadText, BadWord
 
 MOST = 200
 
@@ -41,6 +41,27 @@ def chain(word):
     """All mirror words at the word's end, the longest, the word itself, first."""
     refuse_no_mirror(word)
     return [word[start:] for start in range(len(word)) if reads_alike(word[start:])]
+
+
+def longest_at_end(text):
+    """The longest mirror word at the text's end; no letters for a text of none."""
+    start = 0
+    # This stops at the last letter at the latest, which reads alike alone.
+    while not reads_alike(text[start:]):
+        start += 1
+    return text[start:]
+
+
+def longest_at_start(text):
+    """The longest mirror word at the text's start; no letters for a text of none."""
+    # From behind, the text's start is its end, and a mirror word is the same.
+    return longest_at_end(text[::-1])
+
+
+def refuse_no_text(text):
+    """Raises BadText of what is no text."""
+    if not is_text(text):
+        raise BadText("a text is up to 200 letters a to z")
 
 
 def refuse_no_mirror(word):

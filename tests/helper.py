@@ -35,6 +35,34 @@ def mirrored(half, middle=""):
     return half + middle + half[::-1]
 
 
+def letter_arm(text, place):
+    """The farthest that the text reads alike around the letter at a place."""
+    farthest = 0
+    for far in range(len(text)):
+        if place - far >= 0 and place + far < len(text) and same_from_behind(text[place - far:place + far + 1]):
+            farthest = far
+    return farthest
+
+
+def gap_arm(text, place):
+    """The farthest that the text reads alike around the gap before the letter at a place."""
+    farthest = 0
+    for far in range(len(text) + 1):
+        if place - far >= 0 and place + far <= len(text) and same_from_behind(text[place - far:place + far]):
+            farthest = far
+    return farthest
+
+
+def arms_by_letters(text):
+    """All arms by a plain reading to both sides of each middle."""
+    told = []
+    for place in range(len(text)):
+        if place > 0:
+            told.append(gap_arm(text, place))
+        told.append(letter_arm(text, place))
+    return told
+
+
 class Plain:
     """An object that is no text."""
 

@@ -6,7 +6,7 @@ import unittest
 from mirrorwords.errors import BadText
 from mirrorwords.middles import arms
 from tests.helper import (
-    LETTERS, NO_TEXT_STRINGS, all_texts, mirrored, other_kinds, refusal_of, same_from_behind, unlike_text)
+    LETTERS, NO_TEXT_STRINGS, all_texts, arms_by_letters, mirrored, other_kinds, refusal_of, unlike_text)
 
 LONG_TEXTS = [
     "a" * 199,
@@ -24,34 +24,6 @@ LONG_TEXTS = [
 UNLIKE_TEXTS = [
     unlike_text(many, step, kinds)
     for many in (1, 2, 3, 7, 20, 63, 120, 199, 200) for step in (11, 12, 13) for kinds in (1, 2, 3, 4, 26)]
-
-
-def letter_arm(text, place):
-    """The farthest that the text reads alike around the letter at a place."""
-    farthest = 0
-    for far in range(len(text)):
-        if place - far >= 0 and place + far < len(text) and same_from_behind(text[place - far:place + far + 1]):
-            farthest = far
-    return farthest
-
-
-def gap_arm(text, place):
-    """The farthest that the text reads alike around the gap before the letter at a place."""
-    farthest = 0
-    for far in range(len(text) + 1):
-        if place - far >= 0 and place + far <= len(text) and same_from_behind(text[place - far:place + far]):
-            farthest = far
-    return farthest
-
-
-def arms_by_letters(text):
-    """All arms by a plain reading to both sides of each middle."""
-    told = []
-    for place in range(len(text)):
-        if place > 0:
-            told.append(gap_arm(text, place))
-        told.append(letter_arm(text, place))
-    return told
 
 
 class Arms(unittest.TestCase):
