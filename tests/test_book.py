@@ -246,7 +246,8 @@ class Deeds(BookCase):
             self.assert_row(120, 500 + step, 1, 30)
 
     def test_long_rows_at_texts_that_read_alike(self):
-        for step, text in enumerate(["level", "abacabadabacaba", mirrored("abcab", "c"), "aabaa", "abababababa", "q" * 9]):
+        texts = ["level", "abacabadabacaba", mirrored("abcab", "c"), "aabaa", "abababababa", "q" * 9]
+        for step, text in enumerate(texts):
             self.assert_row(100, 520 + step, 2, 30, text)
             self.assert_row(100, 540 + step, 3, 30, text)
 
@@ -266,7 +267,8 @@ class Deeds(BookCase):
             look = self.assert_deed(book, look, CUTS[len(look.text) % 2], "")
 
     def test_200_letters_cut_down_to_none_and_grown_again(self):
-        for text in [unlike_text(200, 601, 2), unlike_text(200, 602, 26), "a" * 200, mirrored(unlike_text(100, 603, 3))]:
+        texts = [unlike_text(200, 601, 2), unlike_text(200, 602, 26), "a" * 200, mirrored(unlike_text(100, 603, 3))]
+        for text in texts:
             book = Book(text)
             for turn in range(200):
                 told, behind = self.after(book, CUTS[turn % 3 % 2], "")
@@ -346,7 +348,8 @@ class AskersOwn(BookCase):
 
 class Refusals(BookCase):
     def setUp(self):
-        self.books = [Book(), Book("a"), Book("abaab"), Book("aabbaa"), Book("ab" * 100), Book(unlike_text(200, 701, 3))]
+        texts = ["", "a", "abaab", "aabbaa", "ab" * 100, unlike_text(200, 701, 3)]
+        self.books = [Book(text) for text in texts]
         self.before = [told_by(book) for book in self.books]
 
     def assert_refused(self, name, thing, kind):

@@ -22,7 +22,8 @@ NO_TEXT_ARMS = [
 LONG_TEXTS = [
     "a" * 199, "a" * 200, "z" * 200, "ab" * 100, "zy" * 100, "zyx" * 66 + "zy", LETTERS * 7 + LETTERS[:18],
     "a" * 100 + "b" * 100, "a" * 199 + "b", "b" + "a" * 199, "q" * 99 + "x" + "q" * 100,
-    mirrored(unlike_text(100, 31, 26)), mirrored(unlike_text(99, 32, 2), "xy"), mirrored(mirrored("zxxy" * 12, "q"), "p"),
+    mirrored(unlike_text(100, 31, 26)), mirrored(unlike_text(99, 32, 2), "xy"),
+    mirrored(mirrored("zxxy" * 12, "q"), "p"),
 ] + [unlike_text(many, step, kinds) for many in (37, 120, 200) for step in (41, 42) for kinds in (1, 2, 3, 5, 26)]
 
 
